@@ -1,0 +1,1 @@
+"""Mixed lots with declining strength."""

@@ -1,0 +1,129 @@
+"""The operations on mixtures of lots, each lot losing strength at its own rate."""
+
+OUTSIDE_LIMITS = -22
+NO_WEIGHT = -6
+
+NUMBERS_PER_LOT = 4
+MOST_LOTS = 6
+MOST_WEIGHT = 99
+MOST_STRENGTH = 999
+MOST_DEN = 20
+LAST_MONTH = 40
+
+
+class Lot:
+    """A lot: each month it keeps num / den of its strength."""
+
+    def __init__(self, weight, strength, num, den):
+        self.weight = weight
+        self.strength = strength
+        self.num = num
+        self.den = den
+
+
+def mean_strength(mask, month, lots):
+    """Answer 0 and the mean strength of the set in the month, or an error code."""
+    refusal = find_refusal(mask, month, LAST_MONTH, lots)
+    if refusal != 0:
+        return [refusal]
+    return [0] + mean_in_month(chosen_lots(mask, lots), month)
+
+
+def find_refusal(mask, number, most, lots):
+    """Give the first error code that applies, or 0; number is to be from 0 to most."""
+    if not are_lots_within_limits(lots):
+        return OUTSIDE_LIMITS
+    if number < 0 or number > most:
+        return OUTSIDE_LIMITS
+    if has_unknown_lot(mask, lots):
+        return OUTSIDE_LIMITS
+    if total_weight(chosen_lots(mask, lots)) == 0:
+        return NO_WEIGHT
+    return 0
+
+
+def are_lots_within_limits(lots):
+    """Tell whether the list is that of 0 to 6 whole lots with values in their limits."""
+    if len(lots) % NUMBERS_PER_LOT != 0 or len(lots) > MOST_LOTS * NUMBERS_PER_LOT:
+        return False
+    for place in range(count_lots(lots)):
+        if not is_lot_within_limits(lot_at(place, lots)):
+            return False
+    return True
+
+
+def is_lot_within_limits(lot):
+    """Tell whether each value of the lot is in its limits."""
+    if lot.weight < 0 or lot.weight > MOST_WEIGHT:
+        return False
+    if lot.strength < 0 or lot.strength > MOST_STRENGTH:
+        return False
+    return 1 <= lot.num and lot.num <= lot.den and lot.den <= MOST_DEN
+
+
+def has_unknown_lot(mask, lots):
+    """Tell whether the mask has a bit beyond the last lot."""
+    return (mask >> count_lots(lots)) != 0
+
+
+def count_lots(lots):
+    """Give the number of lots in the list of numbers."""
+    return len(lots) // NUMBERS_PER_LOT
+
+
+def lot_at(place, lots):
+    """Give the lot of this number, counted from 0."""
+    start = place * NUMBERS_PER_LOT
+    return Lot(lots[start], lots[start + 1], lots[start + 2], lots[start + 3])
+
+
+def chosen_lots(mask, lots):
+    """Give the lots of the set, by rising number."""
+    chosen = []
+    for place in range(count_lots(lots)):
+        if ((mask >> place) & 1) == 1:
+            chosen.append(lot_at(place, lots))
+    return chosen
+
+
+def total_weight(chosen):
+    """Give the sum of the weights."""
+    weight = 0
+    for lot in chosen:
+        weight = weight + lot.weight
+    return weight
+
+
+def mean_in_month(chosen, month):
+    """Give the mean strength as numerator and denominator; the total weight is not to be 0."""
+    top = 0
+    bottom = 1
+    for lot in chosen:
+        parts = power(lot.den, month)
+        kept = power(lot.num, month)
+        top = top * parts + lot.weight * lot.strength * kept * bottom
+        bottom = bottom * parts
+    return in_lowest_terms(top, bottom * total_weight(chosen))
+
+
+def power(base, exponent):
+    """Multiply the base with itself, exponent times over."""
+    product = 1
+    for turn in range(exponent):
+        product = product * base
+    return product
+
+
+def in_lowest_terms(top, bottom):
+    """Give top / bottom as numerator and denominator without a common divisor; 0 as 0 and 1."""
+    divisor = greatest_common_divisor(top, bottom)
+    return [top // divisor, bottom // divisor]
+
+
+def greatest_common_divisor(first, second):
+    """Give the greatest number that divides both, by Euclid's steps."""
+    while second != 0:
+        rest = first % second
+        first = second
+        second = rest
+    return first
