@@ -2,6 +2,7 @@
 
 OUTSIDE_LIMITS = -22
 NO_WEIGHT = -6
+NO_SUCH_MONTH = -33
 
 NUMBERS_PER_LOT = 4
 MOST_LOTS = 6
@@ -9,6 +10,7 @@ MOST_WEIGHT = 99
 MOST_STRENGTH = 999
 MOST_DEN = 20
 LAST_MONTH = 40
+MOST_THRESHOLD = 999
 
 
 class Lot:
@@ -27,6 +29,18 @@ def mean_strength(mask, month, lots):
     if refusal != 0:
         return [refusal]
     return [0] + mean_in_month(chosen_lots(mask, lots), month)
+
+
+def last_month_at(mask, threshold, lots):
+    """Answer the last month in which the mean strength is at least the threshold, or an error code."""
+    refusal = find_refusal(mask, threshold, MOST_THRESHOLD, lots)
+    if refusal != 0:
+        return [refusal]
+    chosen = chosen_lots(mask, lots)
+    for month in range(LAST_MONTH, -1, -1):
+        if is_at_least(mean_in_month(chosen, month), threshold):
+            return [month]
+    return [NO_SUCH_MONTH]
 
 
 def find_refusal(mask, number, most, lots):
@@ -104,6 +118,11 @@ def mean_in_month(chosen, month):
         top = top * parts + lot.weight * lot.strength * kept * bottom
         bottom = bottom * parts
     return in_lowest_terms(top, bottom * total_weight(chosen))
+
+
+def is_at_least(mean, threshold):
+    """Tell whether the mean, a numerator and a denominator, is the threshold or more."""
+    return mean[0] >= threshold * mean[1]
 
 
 def power(base, exponent):

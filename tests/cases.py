@@ -1,6 +1,5 @@
 """What the tests of the operations share: lists of lots, and a plain model to compare with."""
 
-import copy
 from fractions import Fraction
 
 EXAMPLE = [10, 100, 1, 2, 10, 50, 1, 1]
@@ -108,17 +107,65 @@ def weighty_sets():
                 yield mask, lots
 
 
-def answer_of(test, function, first, second, lots):
-    """Call twice; check what holds for every call, and give the answer."""
-    handed_in = copy.copy(lots)
-    answer = function(first, second, handed_in)
-    test.assertEqual(handed_in, lots, "the list handed in is changed")
-    test.assertIs(type(answer), list)
-    for number in answer:
-        test.assertIs(type(number), int)
-    kept = list(answer)
-    function(0, 1, [3, 7, 1, 5])
-    again = function(first, second, handed_in)
-    test.assertEqual(again, kept, "the second call answers otherwise")
-    test.assertIsNot(again, answer)
-    return answer
+class AnswerChecks:
+    """For the test cases of one operation, called as function(first, second, lots)."""
+
+    def check(self, expected, first, second, lots):
+        with self.subTest(first=first, second=second, lots=lots):
+            self.assertEqual(self.answer_of(first, second, lots), expected)
+
+    def answer_of(self, first, second, lots):
+        """Call twice; check what holds for every call, and give the answer."""
+        handed_in = list(lots)
+        answer = self.function(first, second, handed_in)
+        self.assertEqual(handed_in, lots, "the list handed in is changed")
+        self.assertIs(type(answer), list)
+        for number in answer:
+            self.assertIs(type(number), int)
+        kept = list(answer)
+        self.function(1, 1, [3, 7, 1, 5])
+        self.assertEqual(self.function(first, second, handed_in), kept, "the second call answers otherwise")
+        self.assertEqual(answer, kept, "the second call changes the first answer")
+        return answer
+
+
+class SetRefusals(AnswerChecks):
+    """The errors of every operation on a mask, a number (allowed or too large) and lots."""
+
+    def test_no_list_of_whole_lots(self):
+        lengths = [len(lots) for lots in NO_LIST_OF_WHOLE_LOTS]
+        for length in (1, 2, 3, 5, 25, 26, 27):
+            self.assertIn(length, lengths)
+        for lots in NO_LIST_OF_WHOLE_LOTS:
+            self.check([-22], 1, self.allowed[0], lots)
+
+    def test_lots_outside_limits(self):
+        for lots in LOTS_OUTSIDE_LIMITS:
+            self.check([-22], 1, self.allowed[0], lots)
+
+    def test_number_outside_range(self):
+        for number in self.too_large:
+            self.check([-22], 3, number, EXAMPLE)
+
+    def test_unknown_lots(self):
+        for mask, lots in UNKNOWN_LOTS:
+            self.check([-22], mask, self.allowed[0], lots)
+
+    def test_no_weight(self):
+        for mask, lots in WEIGHTLESS:
+            for number in self.allowed:
+                self.check([-6], mask, number, lots)
+
+    def test_limits_come_ahead_of_the_weight(self):
+        for lots in NO_LIST_OF_WHOLE_LOTS + LOTS_OUTSIDE_LIMITS:
+            self.check([-22], 0, self.allowed[0], lots)
+        for mask, lots in WEIGHTLESS:
+            self.check([-22], mask, self.too_large[0], lots)
+        self.check([-22], 1, self.allowed[0], [0, 1000, 1, 2])
+        self.check([-22], 1, self.allowed[0], [0, 80, 0, 2])
+
+    def test_several_errors_at_once(self):
+        self.check([-22], 4294967295, 4294967295, [4294967295] * 27)
+        self.check([-22], 0, 4294967295, [0] * 27)
+        self.check([-22], 2, self.too_large[0], [0, 80, 1, 2])
+        self.check([-22], 0, self.too_large[0], [])

@@ -3,15 +3,12 @@
 import unittest
 from math import gcd
 
-from cases import (EXAMPLE, LOTS_OUTSIDE_LIMITS, NO_LIST_OF_WHOLE_LOTS, SIX, UNKNOWN_LOTS, WEIGHTLESS, answer_of,
-                   model_mean, weighty_sets)
+from cases import EXAMPLE, SIX, AnswerChecks, SetRefusals, model_mean, weighty_sets
 from fadinglots.mixtures import mean_strength
 
 
-class MeanStrengthCase(unittest.TestCase):
-    def check(self, expected, mask, month, lots):
-        with self.subTest(mask=mask, month=month, lots=lots):
-            self.assertEqual(answer_of(self, mean_strength, mask, month, lots), expected)
+class MeanStrengthCase(AnswerChecks, unittest.TestCase):
+    function = staticmethod(mean_strength)
 
 
 class OrdinaryInputs(MeanStrengthCase):
@@ -110,44 +107,10 @@ class Range(unittest.TestCase):
                 last_numerator, last_denominator = numerator, denominator
 
 
-class WrongInputs(MeanStrengthCase):
-    def test_no_list_of_whole_lots(self):
-        lengths = [len(lots) for lots in NO_LIST_OF_WHOLE_LOTS]
-        for length in (1, 2, 3, 5, 25, 26, 27):
-            self.assertIn(length, lengths)
-        for lots in NO_LIST_OF_WHOLE_LOTS:
-            self.check([-22], 1, 0, lots)
-
-    def test_lots_outside_limits(self):
-        for lots in LOTS_OUTSIDE_LIMITS:
-            self.check([-22], 1, 0, lots)
-
-    def test_month_outside_range(self):
-        for month in (41, 42, 999, 4294967295):
-            self.check([-22], 3, month, EXAMPLE)
-
-    def test_unknown_lots(self):
-        for mask, lots in UNKNOWN_LOTS:
-            self.check([-22], mask, 0, lots)
-
-    def test_no_weight(self):
-        for mask, lots in WEIGHTLESS:
-            for month in (0, 1, 40):
-                self.check([-6], mask, month, lots)
-
-    def test_limits_come_ahead_of_the_weight(self):
-        for lots in NO_LIST_OF_WHOLE_LOTS + LOTS_OUTSIDE_LIMITS:
-            self.check([-22], 0, 0, lots)
-        for mask, lots in WEIGHTLESS:
-            self.check([-22], mask, 41, lots)
-        self.check([-22], 1, 0, [0, 1000, 1, 2])
-        self.check([-22], 1, 0, [0, 80, 0, 2])
-
-    def test_several_errors_at_once(self):
-        self.check([-22], 4294967295, 4294967295, [4294967295] * 27)
-        self.check([-22], 0, 4294967295, [0] * 27)
-        self.check([-22], 2, 41, [0, 80, 1, 2])
-        self.check([-22], 0, 41, [])
+class WrongInputs(SetRefusals, unittest.TestCase):
+    function = staticmethod(mean_strength)
+    allowed = (0, 1, 40)
+    too_large = (41, 42, 999, 4294967295)
 
 
 if __name__ == "__main__":
