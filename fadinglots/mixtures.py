@@ -28,7 +28,8 @@ def mean_strength(mask, month, lots):
     refusal = find_refusal(mask, month, LAST_MONTH, lots)
     if refusal != 0:
         return [refusal]
-    return [0] + mean_in_month(chosen_lots(mask, lots), month)
+    mean = mean_in_month(chosen_lots(mask, lots), month)
+    return [0] + in_lowest_terms(mean[0], mean[1])
 
 
 def last_month_at(mask, threshold, lots):
@@ -43,11 +44,29 @@ def last_month_at(mask, threshold, lots):
     return [NO_SUCH_MONTH]
 
 
+def heaviest_set(threshold, month, lots):
+    """Answer the weight and the mask of the heaviest set with a mean of at least the threshold, or an error code."""
+    if not are_lots_within_limits(lots):
+        return [OUTSIDE_LIMITS]
+    if not is_from_0_to(MOST_THRESHOLD, threshold) or not is_from_0_to(LAST_MONTH, month):
+        return [OUTSIDE_LIMITS]
+    most_weight = 0
+    best_mask = 0
+    for mask in range(1 << count_lots(lots)):
+        chosen = chosen_lots(mask, lots)
+        weight = total_weight(chosen)
+        # Only a heavier set takes the place: the smallest of equal masks stays, and no weight of 0 is divided by.
+        if weight > most_weight and is_at_least(mean_in_month(chosen, month), threshold):
+            most_weight = weight
+            best_mask = mask
+    return [most_weight, best_mask]
+
+
 def find_refusal(mask, number, most, lots):
     """Give the first error code that applies, or 0; number is to be from 0 to most."""
     if not are_lots_within_limits(lots):
         return OUTSIDE_LIMITS
-    if number < 0 or number > most:
+    if not is_from_0_to(most, number):
         return OUTSIDE_LIMITS
     if has_unknown_lot(mask, lots):
         return OUTSIDE_LIMITS
@@ -68,11 +87,14 @@ def are_lots_within_limits(lots):
 
 def is_lot_within_limits(lot):
     """Tell whether each value of the lot is in its limits."""
-    if lot.weight < 0 or lot.weight > MOST_WEIGHT:
-        return False
-    if lot.strength < 0 or lot.strength > MOST_STRENGTH:
+    if not is_from_0_to(MOST_WEIGHT, lot.weight) or not is_from_0_to(MOST_STRENGTH, lot.strength):
         return False
     return 1 <= lot.num and lot.num <= lot.den and lot.den <= MOST_DEN
+
+
+def is_from_0_to(most, number):
+    """Tell whether the number is at least 0 and at most the other."""
+    return 0 <= number and number <= most
 
 
 def has_unknown_lot(mask, lots):
@@ -109,7 +131,7 @@ def total_weight(chosen):
 
 
 def mean_in_month(chosen, month):
-    """Give the mean strength as numerator and denominator; the total weight is not to be 0."""
+    """Give the mean strength as numerator and denominator, not reduced; the total weight is not to be 0."""
     top = 0
     bottom = 1
     for lot in chosen:
@@ -117,7 +139,7 @@ def mean_in_month(chosen, month):
         kept = power(lot.num, month)
         top = top * parts + lot.weight * lot.strength * kept * bottom
         bottom = bottom * parts
-    return in_lowest_terms(top, bottom * total_weight(chosen))
+    return [top, bottom * total_weight(chosen)]
 
 
 def is_at_least(mean, threshold):

@@ -2,7 +2,7 @@
 
 import unittest
 
-from cases import EXAMPLE, SIX, AnswerChecks, SetRefusals, model_mean, weighty_sets
+from cases import EXAMPLE, HARDLY_BELOW_232, SIX, AnswerChecks, SetRefusals, model_mean, weighty_sets
 from fadinglots.mixtures import last_month_at
 
 
@@ -62,6 +62,7 @@ class Edges(LastMonthAtCase):
         self.check([1], 3, 38, EXAMPLE)
         self.check([2], 3, 37, EXAMPLE)
         self.check([-33], 3, 9, [1, 8, 1, 1, 1, 9, 1, 1])
+        self.check([2], 63, 232, HARDLY_BELOW_232)
 
     def test_threshold_0(self):
         self.check([40], 1, 0, [1, 999, 1, 20])
