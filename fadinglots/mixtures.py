@@ -3,6 +3,7 @@
 OUTSIDE_LIMITS = -22
 NO_WEIGHT = -6
 NO_SUCH_MONTH = -33
+NO_STRENGTH = -33
 
 NUMBERS_PER_LOT = 4
 MOST_LOTS = 6
@@ -10,6 +11,7 @@ MOST_WEIGHT = 99
 MOST_STRENGTH = 999
 MOST_DEN = 20
 LAST_MONTH = 40
+LAST_MONTH_OF_RETENTION = 39
 MOST_THRESHOLD = 999
 
 
@@ -60,6 +62,19 @@ def heaviest_set(threshold, month, lots):
             most_weight = weight
             best_mask = mask
     return [most_weight, best_mask]
+
+
+def retention(mask, month, lots):
+    """Answer 0 and the part of the mean strength that is left a month later, or an error code."""
+    refusal = find_refusal(mask, month, LAST_MONTH_OF_RETENTION, lots)
+    if refusal != 0:
+        return [refusal]
+    chosen = chosen_lots(mask, lots)
+    before = mean_in_month(chosen, month)
+    if before[0] == 0:
+        return [NO_STRENGTH]
+    after = mean_in_month(chosen, month + 1)
+    return [0] + in_lowest_terms(after[0] * before[1], after[1] * before[0])
 
 
 def find_refusal(mask, number, most, lots):
