@@ -57,7 +57,7 @@ def heaviest_set(threshold, month, lots):
     for mask in range(1 << count_lots(lots)):
         chosen = chosen_lots(mask, lots)
         weight = total_weight(chosen)
-        # Only a heavier set takes the place: the smallest of equal masks stays, and no weight of 0 is divided by.
+        # Only a heavier set takes the place: the smallest mask of a weight stays, and no weight of 0 is divided by.
         if weight > most_weight and is_at_least(mean_in_month(chosen, month), threshold):
             most_weight = weight
             best_mask = mask
