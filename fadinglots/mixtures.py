@@ -13,6 +13,8 @@ MOST_DEN = 20
 LAST_MONTH = 40
 LAST_MONTH_OF_RETENTION = 39
 MOST_THRESHOLD = 999
+LEAST_FACTOR = 1
+MOST_FACTOR = 99
 
 
 class Lot:
@@ -27,7 +29,7 @@ class Lot:
 
 def mean_strength(mask, month, lots):
     """Answer 0 and the mean strength of the set in the month, or an error code."""
-    refusal = find_refusal(mask, month, LAST_MONTH, lots)
+    refusal = find_refusal(mask, month, 0, LAST_MONTH, lots)
     if refusal != 0:
         return [refusal]
     mean = mean_in_month(chosen_lots(mask, lots), month)
@@ -36,7 +38,7 @@ def mean_strength(mask, month, lots):
 
 def last_month_at(mask, threshold, lots):
     """Answer the last month in which the mean strength is at least the threshold, or an error code."""
-    refusal = find_refusal(mask, threshold, MOST_THRESHOLD, lots)
+    refusal = find_refusal(mask, threshold, 0, MOST_THRESHOLD, lots)
     if refusal != 0:
         return [refusal]
     chosen = chosen_lots(mask, lots)
@@ -50,7 +52,7 @@ def heaviest_set(threshold, month, lots):
     """Answer the weight and the mask of the heaviest set with a mean of at least the threshold, or an error code."""
     if not are_lots_within_limits(lots):
         return [OUTSIDE_LIMITS]
-    if not is_from_0_to(MOST_THRESHOLD, threshold) or not is_from_0_to(LAST_MONTH, month):
+    if not is_within(0, threshold, MOST_THRESHOLD) or not is_within(0, month, LAST_MONTH):
         return [OUTSIDE_LIMITS]
     most_weight = 0
     best_mask = 0
@@ -66,7 +68,7 @@ def heaviest_set(threshold, month, lots):
 
 def retention(mask, month, lots):
     """Answer 0 and the part of the mean strength that is left a month later, or an error code."""
-    refusal = find_refusal(mask, month, LAST_MONTH_OF_RETENTION, lots)
+    refusal = find_refusal(mask, month, 0, LAST_MONTH_OF_RETENTION, lots)
     if refusal != 0:
         return [refusal]
     chosen = chosen_lots(mask, lots)
@@ -77,11 +79,24 @@ def retention(mask, month, lots):
     return [0] + in_lowest_terms(after[0] * before[1], after[1] * before[0])
 
 
-def find_refusal(mask, number, most, lots):
-    """Give the first error code that applies, or 0; number is to be from 0 to most."""
+def first_month_reduced(mask, factor, lots):
+    """Answer the first month in which factor times the mean strength is at most that of month 0, or an error code."""
+    refusal = find_refusal(mask, factor, LEAST_FACTOR, MOST_FACTOR, lots)
+    if refusal != 0:
+        return [refusal]
+    chosen = chosen_lots(mask, lots)
+    first = mean_in_month(chosen, 0)
+    for month in range(LAST_MONTH + 1):
+        if is_reduced(mean_in_month(chosen, month), factor, first):
+            return [month]
+    return [NO_SUCH_MONTH]
+
+
+def find_refusal(mask, number, least, most, lots):
+    """Give the first error code that applies, or 0; number is to be from least to most."""
     if not are_lots_within_limits(lots):
         return OUTSIDE_LIMITS
-    if not is_from_0_to(most, number):
+    if not is_within(least, number, most):
         return OUTSIDE_LIMITS
     if has_unknown_lot(mask, lots):
         return OUTSIDE_LIMITS
@@ -102,14 +117,14 @@ def are_lots_within_limits(lots):
 
 def is_lot_within_limits(lot):
     """Tell whether each value of the lot is in its limits."""
-    if not is_from_0_to(MOST_WEIGHT, lot.weight) or not is_from_0_to(MOST_STRENGTH, lot.strength):
+    if not is_within(0, lot.weight, MOST_WEIGHT) or not is_within(0, lot.strength, MOST_STRENGTH):
         return False
-    return 1 <= lot.num and lot.num <= lot.den and lot.den <= MOST_DEN
+    return is_within(1, lot.num, lot.den) and lot.den <= MOST_DEN
 
 
-def is_from_0_to(most, number):
-    """Tell whether the number is at least 0 and at most the other."""
-    return 0 <= number and number <= most
+def is_within(least, number, most):
+    """Tell whether the number is at least the one and at most the other."""
+    return least <= number and number <= most
 
 
 def has_unknown_lot(mask, lots):
@@ -160,6 +175,11 @@ def mean_in_month(chosen, month):
 def is_at_least(mean, threshold):
     """Tell whether the mean, a numerator and a denominator, is the threshold or more."""
     return mean[0] >= threshold * mean[1]
+
+
+def is_reduced(mean, factor, first):
+    """Tell whether factor times the mean is at most the first mean; each is a numerator and a denominator."""
+    return factor * mean[0] * first[1] <= first[0] * mean[1]
 
 
 def power(base, exponent):

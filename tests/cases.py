@@ -156,7 +156,7 @@ class AnswerChecks:
 
 
 class LotsRefusals(AnswerChecks):
-    """The errors of every operation on two numbers, the second one allowed or too large, and lots."""
+    """The errors of every operation on two numbers, the second one allowed or outside its range, and lots."""
 
     def test_no_list_of_whole_lots(self):
         lengths = [len(lots) for lots in NO_LIST_OF_WHOLE_LOTS]
@@ -170,12 +170,12 @@ class LotsRefusals(AnswerChecks):
             self.check([-22], 1, self.allowed[0], lots)
 
     def test_number_outside_range(self):
-        for number in self.too_large:
+        for number in self.outside_range:
             self.check([-22], 3, number, EXAMPLE)
 
 
 class SetRefusals(LotsRefusals):
-    """The errors of every operation on a mask, a number (allowed or too large) and lots."""
+    """The errors of every operation on a mask, a number (allowed or outside its range) and lots."""
 
     def test_unknown_lots(self):
         for mask, lots in UNKNOWN_LOTS:
@@ -190,12 +190,12 @@ class SetRefusals(LotsRefusals):
         for lots in NO_LIST_OF_WHOLE_LOTS + LOTS_OUTSIDE_LIMITS:
             self.check([-22], 0, self.allowed[0], lots)
         for mask, lots in WEIGHTLESS:
-            self.check([-22], mask, self.too_large[0], lots)
+            self.check([-22], mask, self.outside_range[0], lots)
         self.check([-22], 1, self.allowed[0], [0, 1000, 1, 2])
         self.check([-22], 1, self.allowed[0], [0, 80, 0, 2])
 
     def test_several_errors_at_once(self):
         self.check([-22], 4294967295, 4294967295, [4294967295] * 27)
         self.check([-22], 0, 4294967295, [0] * 27)
-        self.check([-22], 2, self.too_large[0], [0, 80, 1, 2])
-        self.check([-22], 0, self.too_large[0], [])
+        self.check([-22], 2, self.outside_range[0], [0, 80, 1, 2])
+        self.check([-22], 0, self.outside_range[0], [])

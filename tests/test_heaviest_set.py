@@ -192,7 +192,7 @@ class Optimality(unittest.TestCase):
 class WrongInputs(LotsRefusals, unittest.TestCase):
     function = staticmethod(heaviest_set)
     allowed = (0, 1, 40)
-    too_large = (41, 42, 999, 4294967295)
+    outside_range = (41, 42, 999, 4294967295)
 
     def test_threshold_outside_range(self):
         for threshold in (1000, 1001, 4294967295):

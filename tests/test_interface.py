@@ -14,6 +14,7 @@ PARAMETERS = {
     "last_month_at": ["mask", "threshold", "lots"],
     "heaviest_set": ["threshold", "month", "lots"],
     "retention": ["mask", "month", "lots"],
+    "first_month_reduced": ["mask", "factor", "lots"],
 }
 
 
@@ -32,6 +33,7 @@ class Interface(unittest.TestCase):
         self.assertEqual(mixtures.last_month_at(mask=1, threshold=2, lots=[1, 8, 1, 2]), [2])
         self.assertEqual(mixtures.heaviest_set(threshold=2, month=1, lots=[5, 8, 1, 2]), [5, 1])
         self.assertEqual(mixtures.retention(mask=1, month=0, lots=[5, 8, 1, 2]), [0, 1, 2])
+        self.assertEqual(mixtures.first_month_reduced(mask=1, factor=3, lots=[5, 8, 1, 2]), [2])
 
     def test_nothing_from_outside_the_package(self):
         for path in PACKAGE.glob("*.py"):

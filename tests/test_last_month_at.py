@@ -140,7 +140,7 @@ class Threshold(unittest.TestCase):
 class WrongInputs(SetRefusals, unittest.TestCase):
     function = staticmethod(last_month_at)
     allowed = (0, 1, 999)
-    too_large = (1000, 1001, 4294967295)
+    outside_range = (1000, 1001, 4294967295)
 
     def test_weight_comes_ahead_of_the_month(self):
         self.check([-33], 2, 81, [0, 80, 1, 2, 5, 80, 1, 2])

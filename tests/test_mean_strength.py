@@ -110,7 +110,7 @@ class Range(unittest.TestCase):
 class WrongInputs(SetRefusals, unittest.TestCase):
     function = staticmethod(mean_strength)
     allowed = (0, 1, 40)
-    too_large = (41, 42, 999, 4294967295)
+    outside_range = (41, 42, 999, 4294967295)
 
 
 if __name__ == "__main__":

@@ -136,7 +136,7 @@ class SlowingDecline(unittest.TestCase):
 class WrongInputs(SetRefusals, unittest.TestCase):
     function = staticmethod(retention)
     allowed = (0, 1, 39)
-    too_large = (40, 41, 42, 999, 4294967295)
+    outside_range = (40, 41, 42, 999, 4294967295)
 
     def test_strength_0(self):
         for month in self.allowed:
