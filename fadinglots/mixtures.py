@@ -92,6 +92,15 @@ def first_month_reduced(mask, factor, lots):
     return [NO_SUCH_MONTH]
 
 
+def order_by_strength(month, lots):
+    """Answer the number of lots and all lots by decreasing strength in the month, or an error code."""
+    if not are_lots_within_limits(lots) or not is_within(0, month, LAST_MONTH):
+        return [OUTSIDE_LIMITS]
+    count = count_lots(lots)
+    strengths = comparable_strengths(month, lots)
+    return [count] + sorted(range(count), key=lambda place: (-strengths[place], place))
+
+
 def find_refusal(mask, number, least, most, lots):
     """Give the first error code that applies, or 0; number is to be from least to most."""
     if not are_lots_within_limits(lots):
@@ -143,6 +152,11 @@ def lot_at(place, lots):
     return Lot(lots[start], lots[start + 1], lots[start + 2], lots[start + 3])
 
 
+def all_lots(lots):
+    """Give every lot, by rising number."""
+    return [lot_at(place, lots) for place in range(count_lots(lots))]
+
+
 def chosen_lots(mask, lots):
     """Give the lots of the set, by rising number."""
     chosen = []
@@ -158,6 +172,18 @@ def total_weight(chosen):
     for lot in chosen:
         weight = weight + lot.weight
     return weight
+
+
+def comparable_strengths(month, lots):
+    """Give each lot's strength in the month, all times one common denominator: whole numbers that compare exactly."""
+    every = all_lots(lots)
+    common = 1
+    for lot in every:
+        common = common * power(lot.den, month)
+    strengths = []
+    for lot in every:
+        strengths.append(lot.strength * power(lot.num, month) * (common // power(lot.den, month)))
+    return strengths
 
 
 def mean_in_month(chosen, month):

@@ -79,15 +79,20 @@ UNKNOWN_LOTS = [
 ]
 
 
+def model_strength(index, month, lots):
+    """The strength of a lot straight from its definition."""
+    _, strength, num, den = lots[4 * index:4 * index + 4]
+    return strength * Fraction(num, den) ** month
+
+
 def model_mean(mask, month, lots):
     """The mean strength straight from its definition."""
     weight = 0
     total = Fraction(0)
     for index in range(len(lots) // 4):
         if mask & (1 << index):
-            lot_weight, strength, num, den = lots[4 * index:4 * index + 4]
-            weight += lot_weight
-            total += lot_weight * strength * Fraction(num, den) ** month
+            weight += lots[4 * index]
+            total += lots[4 * index] * model_strength(index, month, lots)
     return total / weight
 
 
@@ -122,6 +127,52 @@ def weighty_sets():
                 yield mask, lots
 
 
+class Draw:
+    """Draws numbers: a row that looks like chance and is the same at each run."""
+
+    def __init__(self, start):
+        self.state = start
+
+    def number(self, least, most):
+        """A number from least to most."""
+        self.state = (self.state * 6364136223846793005 + 1442695040888963407) % (1 << 64)
+        return least + (self.state >> 33) % (most - least + 1)
+
+    def edge_or_number(self, least, most):
+        """One of the two limits now and then, else a number between them."""
+        turn = self.number(0, 9)
+        if turn < 2:
+            return (least, most)[turn]
+        return self.number(least, most)
+
+    def lots(self, count):
+        """A list of so many lots within their limits."""
+        lots = []
+        for _ in range(count):
+            den = self.edge_or_number(1, 20)
+            lots += [self.edge_or_number(0, 99), self.edge_or_number(0, 999), self.edge_or_number(1, den), den]
+        return lots
+
+
+def drawn_lists(start, times):
+    """So many drawn lists of 0 to 6 lots."""
+    draw = Draw(start)
+    for _ in range(times):
+        yield draw.lots(draw.edge_or_number(0, 6))
+
+
+def drawn_sets(start, times):
+    """A drawn set with a weight above 0 of each of so many drawn lists."""
+    draw = Draw(start)
+    found = 0
+    while found < times:
+        lots = draw.lots(draw.number(1, 6))
+        mask = draw.edge_or_number(1, (1 << (len(lots) // 4)) - 1)
+        if model_weight(mask, lots) > 0:
+            found += 1
+            yield mask, lots
+
+
 class Untouchable(list):
     """A list that can't be changed, not even for a while."""
 
@@ -133,45 +184,55 @@ class Untouchable(list):
 
 
 class AnswerChecks:
-    """For the test cases of one operation, called as function(first, second, lots)."""
+    """For the test cases of one operation, called as function(*numbers, lots)."""
 
-    def check(self, expected, first, second, lots):
-        with self.subTest(first=first, second=second, lots=lots):
-            self.assertEqual(self.answer_of(first, second, lots), expected)
+    def check(self, expected, *arguments):
+        with self.subTest(arguments=arguments):
+            self.assertEqual(self.answer_of(*arguments), expected)
 
-    def answer_of(self, first, second, lots):
+    def answer_of(self, *arguments):
         """Call three times; check what holds for every call, and give the answer."""
+        *numbers, lots = arguments
         handed_in = list(lots)
-        answer = self.function(first, second, handed_in)
+        answer = self.function(*numbers, handed_in)
         self.assertEqual(handed_in, lots, "the list handed in is changed")
+        self.check_form(answer)
+        kept = list(answer)
+        self.function(*[1 for _ in numbers], [3, 7, 1, 5])
+        self.assertEqual(self.function(*numbers, handed_in), kept, "the second call answers otherwise")
+        self.assertEqual(answer, kept, "the second call changes the first answer")
+        self.assertEqual(self.function(*numbers, Untouchable(lots)), kept)
+        return answer
+
+    def check_form(self, answer):
+        """A list of whole numbers: an error code alone, or no number below 0."""
         self.assertIs(type(answer), list)
         for number in answer:
             self.assertIs(type(number), int)
-        kept = list(answer)
-        self.function(1, 1, [3, 7, 1, 5])
-        self.assertEqual(self.function(first, second, handed_in), kept, "the second call answers otherwise")
-        self.assertEqual(answer, kept, "the second call changes the first answer")
-        self.assertEqual(self.function(first, second, Untouchable(lots)), kept)
-        return answer
+        if answer not in ([-6], [-22], [-33]):
+            self.assertGreaterEqual(min(answer), 0)
 
 
 class LotsRefusals(AnswerChecks):
-    """The errors of every operation on two numbers, the second one allowed or outside its range, and lots."""
+    """The errors of every operation on numbers, the last one allowed or outside its range, and lots."""
+
+    # What stands ahead of that number.
+    leading = (1,)
 
     def test_no_list_of_whole_lots(self):
         lengths = [len(lots) for lots in NO_LIST_OF_WHOLE_LOTS]
         for length in (1, 2, 3, 5, 25, 26, 27):
             self.assertIn(length, lengths)
         for lots in NO_LIST_OF_WHOLE_LOTS:
-            self.check([-22], 1, self.allowed[0], lots)
+            self.check([-22], *self.leading, self.allowed[0], lots)
 
     def test_lots_outside_limits(self):
         for lots in LOTS_OUTSIDE_LIMITS:
-            self.check([-22], 1, self.allowed[0], lots)
+            self.check([-22], *self.leading, self.allowed[0], lots)
 
     def test_number_outside_range(self):
         for number in self.outside_range:
-            self.check([-22], 3, number, EXAMPLE)
+            self.check([-22], *self.leading, number, EXAMPLE)
 
 
 class SetRefusals(LotsRefusals):

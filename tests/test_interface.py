@@ -15,6 +15,7 @@ PARAMETERS = {
     "heaviest_set": ["threshold", "month", "lots"],
     "retention": ["mask", "month", "lots"],
     "first_month_reduced": ["mask", "factor", "lots"],
+    "order_by_strength": ["month", "lots"],
 }
 
 
@@ -34,6 +35,7 @@ class Interface(unittest.TestCase):
         self.assertEqual(mixtures.heaviest_set(threshold=2, month=1, lots=[5, 8, 1, 2]), [5, 1])
         self.assertEqual(mixtures.retention(mask=1, month=0, lots=[5, 8, 1, 2]), [0, 1, 2])
         self.assertEqual(mixtures.first_month_reduced(mask=1, factor=3, lots=[5, 8, 1, 2]), [2])
+        self.assertEqual(mixtures.order_by_strength(month=1, lots=[5, 8, 1, 2]), [1, 0])
 
     def test_nothing_from_outside_the_package(self):
         for path in PACKAGE.glob("*.py"):
